@@ -1,0 +1,1 @@
+"""Onestepcourt: a disputed run that is narrowed down to one step."""

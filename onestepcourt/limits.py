@@ -1,0 +1,17 @@
+"""The greatest numbers, lengths and depths that the program is made for."""
+
+DEPTH = 8
+MOST_WORD = 65535
+MOST_INPUTS = 16
+MOST_TOLD = 16
+MOST_LEVEL = 8
+MOST_PLAYERS = 6
+MOST_LATE = 9
+MOST_TEXT = 8000
+MOST_NAME = 12
+MOST_SIZE = 64
+MOST_TABLES = 8
+MOST_FUNCTIONS = 8
+MOST_PARAMS = 4
+MOST_NESTED = 12
+MOST_OPEN = 16
