@@ -4,6 +4,34 @@ import doctest
 import pathlib
 import unittest
 
+MACHINE = """
+>>> from onestepcourt.digests import Digests
+>>> from onestepcourt.machine import Machine, first_registers, first_words
+>>> digests = Digests(61, None)
+>>> machine = Machine(digests, first_registers(), first_words((2 * 1024 + 9, 28 * 1024, 1024), ()))
+>>> for turn in range(5):
+...     machine.step()
+>>> machine.told()
+(9,)
+>>> machine.registers()[:4]
+(2, 9, 0, 1)
+"""
+
+OPENINGS = """
+>>> from onestepcourt.digests import Digests
+>>> from onestepcourt.machine import Machine, first_registers, first_words
+>>> from onestepcourt.openings import opened, step_of
+>>> digests = Digests(61, None)
+>>> machine = Machine(digests, first_registers(), first_words((26 * 1024 + 5,), (3, 4)))
+>>> digest = machine.digest()
+>>> opening = opened(machine)
+>>> opening[0], len(opening[2]), opening[2][1][0]
+((0, 0, 0, 0, 7, 0), 2, 0)
+>>> machine.step()
+>>> step_of(digests, digest, opening) == machine.digest()
+True
+"""
+
 README = pathlib.Path(__file__).resolve().parent.parent / "README.md"
 
 
@@ -19,6 +47,12 @@ class Examples(unittest.TestCase):
 
     def test_the_readme(self):
         self.check(README.read_text(encoding="ascii"), "README.md")
+
+    def test_the_machine(self):
+        self.check(MACHINE, "machine")
+
+    def test_the_openings(self):
+        self.check(OPENINGS, "openings")
 
 
 if __name__ == "__main__":
