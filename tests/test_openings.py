@@ -430,6 +430,30 @@ class Forms(unittest.TestCase):
                         changed = replaced(parts, at, (word, replaced(path, height, other)))
                         self.refuse(bits, digest, (registers, root, changed))
 
+    def test_paths_of_another_length_that_lead_to_the_root(self):
+        tried = set()
+        for first in range(20):
+            words = (first,) * 10 + (code("load", 20),) + (first + 1,) * 245
+            machine = Machine(Digests(7, None), (10, 300, 5, 0, 7, 3), words)
+            digest, (registers, root, parts) = machine.digest(), opened(machine)
+            for at, (word, path) in enumerate(parts):
+                place = (10, 20)[at]
+                for length in (1, 2, 6, 7, 9, 10, 16):
+                    longer = (path + (first,) * 8)[:length - 1]
+                    for item in range(127):
+                        other = longer + (item,)
+                        if self.root_by(place, word, other) == root:
+                            tried.add((at, length))
+                            self.refuse(7, digest, (registers, root, replaced(parts, at, (word, other))))
+        self.assertEqual(len(tried), 14)
+
+    def root_by(self, place, word, path):
+        root = reckoning.leaf(7, word)
+        for height, item in enumerate(path):
+            pair = (root, item) if place >> height & 1 == 0 else (item, root)
+            root = reckoning.fold(7, *pair)
+        return root
+
     def test_too_many_or_too_few_parts(self):
         for bits, digest, (registers, root, parts) in self.states():
             part = (0, (0,) * 8)

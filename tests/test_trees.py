@@ -69,6 +69,11 @@ class Rows(unittest.TestCase):
                     self.assertEqual(
                         root_by(digests, place, row[place], path), reckoning.root(bits, row), (bits, row, place))
 
+    def test_a_place_somewhat_beyond_is_no_error(self):
+        digests = Digests(61, None)
+        row = drawn_row(61, 4)
+        self.assertEqual(root_by(digests, 5, row[1], path_of(digests, row, 5)), root_of(digests, row))
+
     def test_root_by_by_hand(self):
         digests = Digests(61, None)
         fold = digests.fold
@@ -234,6 +239,12 @@ class Memories(unittest.TestCase):
 
     def test_somewhat_too_many_words_are_no_error(self):
         self.check(61, Memory(Digests(61, None), tuple(range(260))), tuple(range(256)))
+
+    def test_places_somewhat_beyond_are_no_error(self):
+        memory = Memory(Digests(61, None), (1, 2, 3))
+        self.assertEqual((memory.word(256), memory.path(257)), (1, memory.path(1)))
+        memory.change(258, 9)
+        self.check(61, memory, (1, 2, 9))
 
     def test_a_book_is_told_of_all_digests_of_the_row(self):
         for bits in ALL_BITS:
