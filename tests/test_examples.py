@@ -32,6 +32,18 @@ OPENINGS = """
 True
 """
 
+READING = r"""
+>>> from onestepcourt.reading import parse
+>>> parse("to twice(n)\n  give n * 2\nend\nmain\n  tell twice(input(0)) # the first one\nend")
+('program', (), (('twice', ('n',), (('give', ('op', '*', ('name', 'n'), ('number', 2))),)),), (('tell', ('call', 'twice', (('input', ('number', 0)),))),))
+"""
+
+WRITING = r"""
+>>> from onestepcourt.writing import write
+>>> write(("program", (("t", 4),), (), (("while", ("not", ("at", "t", ("number", 0))), (("put", "t", ("number", 0), ("inputs",)),)),)))
+'table t 4\nmain\n  while not t[0]\n    t[0] = inputs\n  end\nend\n'
+"""
+
 README = pathlib.Path(__file__).resolve().parent.parent / "README.md"
 
 
@@ -53,6 +65,12 @@ class Examples(unittest.TestCase):
 
     def test_the_openings(self):
         self.check(OPENINGS, "openings")
+
+    def test_reading(self):
+        self.check(READING, "reading")
+
+    def test_writing(self):
+        self.check(WRITING, "writing")
 
 
 if __name__ == "__main__":

@@ -18,6 +18,9 @@ FUNCTIONS = {
         "opened": ["machine"], "step_of": ["digests", "digest", "opening"], "are_registers": ["digests", "value"],
     },
     "words": {"op": ["sign", "a", "b"]},
+    "forms": {"is_tree": ["value"]},
+    "reading": {"parse": ["text"]},
+    "writing": {"write": ["tree"]},
 }
 
 CLASSES = {
