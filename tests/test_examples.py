@@ -44,6 +44,30 @@ WRITING = r"""
 'table t 4\nmain\n  while not t[0]\n    t[0] = inputs\n  end\nend\n'
 """
 
+PLAIN = r"""
+>>> from onestepcourt.meaning import check
+>>> from onestepcourt.plain import plain
+>>> from onestepcourt.reading import parse
+>>> checked = check(parse("main\nlet k = 0\nwhile k < inputs\ntell input(k) / 2\nk = k + 1\nend\ntell 1 / k\nend"))
+>>> plain(checked, (9, 4), 100)
+((4, 2, 0), 'done')
+>>> plain(checked, (), 100)
+((), 'divided')
+>>> plain(checked, (9, 4), 5)
+((4,), 'long')
+"""
+
+BUILDING = r"""
+>>> from onestepcourt.building import build
+>>> from onestepcourt.meaning import check
+>>> from onestepcourt.reading import parse
+>>> image, pace = build(check(parse("main\nlet k = 2\nwhile k\ntell k\nk = k - 1\nend\nend")))
+>>> [(word // 1024, word % 1024) for word in image]
+[(2, 2), (4, 12), (3, 12), (24, 10), (3, 12), (28, 0), (3, 12), (13, 11), (4, 12), (23, 2), (1, 0), (0, 1), (0, 0)]
+>>> pace
+3
+"""
+
 README = pathlib.Path(__file__).resolve().parent.parent / "README.md"
 
 
@@ -71,6 +95,12 @@ class Examples(unittest.TestCase):
 
     def test_writing(self):
         self.check(WRITING, "writing")
+
+    def test_plain(self):
+        self.check(PLAIN, "plain")
+
+    def test_building(self):
+        self.check(BUILDING, "building")
 
 
 if __name__ == "__main__":

@@ -21,6 +21,10 @@ FUNCTIONS = {
     "forms": {"is_tree": ["value"]},
     "reading": {"parse": ["text"]},
     "writing": {"write": ["tree"]},
+    "checked": {"is_checked": ["value"]},
+    "meaning": {"check": ["tree"], "source": ["value"]},
+    "plain": {"plain": ["checked", "inputs", "units"]},
+    "building": {"build": ["checked"]},
 }
 
 CLASSES = {

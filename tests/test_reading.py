@@ -81,7 +81,7 @@ class Texts(Reading):
     def test_signs_that_are_no_tokens(self):
         for sign in "!\"$&'.:;?@\\^_`{|}~%":
             for line in ("tell 1 " + sign, sign, "tell " + sign + "1", "tell a" + sign + "b", "a" + sign + "= 1"):
-                self.bad_statement(line if line != "a!= 1" else "a! = 1")
+                self.bad_statement(line)
             self.bad_statement("tell 1 " + sign + " 2")
 
     def test_numbers(self):
@@ -92,11 +92,12 @@ class Texts(Reading):
             self.bad_expression(text)
 
     def test_names(self):
-        for name in ("a", "Z", "a1", "A0b", "abcdefghijkl", "ABCDEFGHIJKL", "a12345678901", "ifs", "If", "END", "tells"):
+        for name in ("a", "Z", "a1", "A0b", "abcdefghijkl", "ABCDEFGHIJKL", "a12345678901", "ifs", "If", "END",
+                     "tells"):
             self.assertEqual(self.expression(name), ("name", name))
             self.assertEqual(
-                parse(f"table {name} 2\nto {name}({name})\nend\nmain\nlet {name} = 1\n{name} = 1\n{name}[1] = {name}[1]\n"
-                      f"do {name}({name}(1))\nend"),
+                parse(f"table {name} 2\nto {name}({name})\nend\nmain\nlet {name} = 1\n{name} = 1\n"
+                      f"{name}[1] = {name}[1]\ndo {name}({name}(1))\nend"),
                 ("program", ((name, 2),), ((name, (name,), ()),), (
                     ("let", name, ONE), ("set", name, ONE), ("put", name, ONE, ("at", name, ONE)),
                     ("do", name, (("call", name, (ONE,)),)))))
@@ -134,8 +135,8 @@ class Texts(Reading):
 
     def test_spaces_may_be_left_out(self):
         self.assertEqual(
-            parse("table t 4\nto f(a,b)\ngive(a)\nend\nmain\nlet k=1\nk=k+1\nt[0]=t[k]*2\nif(k)\nelse\nend\nwhile(k<1)\n"
-                  "do f(1,2)\nend\ntell(1)mod(2)\ntell not(k)and(k)or not k\ntell input(0)-inputs\nend"),
+            parse("table t 4\nto f(a,b)\ngive(a)\nend\nmain\nlet k=1\nk=k+1\nt[0]=t[k]*2\nif(k)\nelse\nend\n"
+                  "while(k<1)\ndo f(1,2)\nend\ntell(1)mod(2)\ntell not(k)and(k)or not k\ntell input(0)-inputs\nend"),
             ("program", (("t", 4),), (("f", ("a", "b"), (("give", A),)),), (
                 ("let", "k", ONE), ("set", "k", op("+", ("name", "k"), ONE)),
                 ("put", "t", ("number", 0), op("*", ("at", "t", ("name", "k")), ("number", 2))),
@@ -185,7 +186,8 @@ class Lines(Reading):
             ("if a\ntell 1\nelse\nend", ("if", A, (("tell", ONE),), ())),
             ("if a\ntell 1\ntell 1\nelse\ngive 1\ngive b\nend",
              ("if", A, (("tell", ONE), ("tell", ONE)), (("give", ONE), ("give", B)))),
-            ("while a\nend", ("while", A, ())), ("while a\ntell b\ntell 1\nend", ("while", A, (("tell", B), ("tell", ONE)))),
+            ("while a\nend", ("while", A, ())), ("while a\ntell b\ntell 1\nend",
+                                                 ("while", A, (("tell", B), ("tell", ONE)))),
             ("if a\nif b\nelse\ntell 1\nend\nelse\nwhile c\nend\nend",
              ("if", A, (("if", B, (), (("tell", ONE),)),), (("while", C, ()),))),
             ("while a\nif b\ntell 1\nend\ntell 1\nend",
@@ -207,20 +209,20 @@ class Lines(Reading):
 
     def test_lines_that_have_no_form(self):
         for line in (
-            "tell a, b", "let", "let a", "let a =", "let = 1", "let 1 = 1", "let a 1", "let a = 1 2", "let a[1] = 2", "let a = 1,",
+            "tell a, b", "let", "let a", "let a =", "let = 1", "let 1 = 1", "let a 1", "let a = 1 2", "let a[1] = 2",
+            "let a = 1,",
             "let a = 1 = 2", "a", "a =", "= 1", "a = 1 2", "a = b = c", "a 1", "1 = a", "(a) = 1", "a + 1", "a(1)",
             "a(1) = 2", "a[] = 1", "a[1 = 1", "a[1]", "a[1] =", "a[1] 2", "a[1, 2] = 3", "a[1][2] = 3", "a]1[ = 2",
-            "tell", "tell 1 2", "tell 1, 2", "tell = 1", "give", "give 1 2", "give a = 1", "do", "do f", "do f(", "do f)",
+            "tell", "tell 1 2", "tell 1, 2", "tell = 1", "give", "give 1 2", "give a = 1", "do", "do f", "do f(",
+            "do f)",
             "do f(1", "do f(1,)", "do f(,1)", "do f(,)", "do f(1 2)", "do f(1,,2)", "do f() 1", "do f()()", "do f[1]",
-            "do f(1))", "do f = 1", "do 1()", "do input(1)", "do (f())", "if", "if 1 2", "if a = 1", "if 1 tell 2", "if 1,",
-            "while", "while 1 2", "while a = 1", "else 1", "else if 1", "end 1", "end end", "main 1", "1", "a b", "not a",
-            "inputs", "input(1)", "inputs = 1", "mod", "(", ")", "tell 1 # 2\n)", "and", ",", "=", "tell 1 else",
+            "do f(1))", "do f = 1", "do 1()", "do input(1)", "do (f())", "if", "if 1 2", "if a = 1", "if 1 tell 2",
+            "if 1,",
+            "while", "while 1 2", "while a = 1", "else 1", "else if 1", "end 1", "end end", "main 1", "1", "a b",
+            "not a",
+            "inputs", "input(1)", "inputs = 1", "mod", "(", ")", "and", ",", "=", "tell 1 else",
         ):
-            texts = ["main\nif 1\ntell 1\n" + line + "\nend\nend"]
-            if not line.startswith(("tell 1 #",)):
-                for text in texts:
-                    self.bad(text, 4)
-        self.bad("main\ntell 1 # 2\n)\nend", 3)
+            self.bad("main\nif 1\ntell 1 # )\n" + line + "\nend\nend", 4)
 
     def test_headings_that_have_no_form(self):
         for line in (
@@ -228,7 +230,8 @@ class Lines(Reading):
             "table t 64a", "table t a", "table t = 1", "table t(1)", "table t[1]", "table t, u 1", "table t 65536",
             "table t 1,", "tables t 1", "table 1 t", "table t 064", "table t (1)",
             "to", "to f", "to f(", "to f)", "to f(a", "to f(a,)", "to f(,a)", "to f(,)", "to f(a b)", "to f(1)",
-            "to f(a, 1)", "to f(a,,b)", "to f() a", "to f()()", "to f[a]", "to f(a + b)", "to f((a))", "to 1()", "to (a)",
+            "to f(a, 1)", "to f(a,,b)", "to f() a", "to f()()", "to f[a]", "to f(a + b)", "to f((a))", "to 1()",
+            "to (a)",
             "to f(a))", "to f(a) give 1", "main 1", "main()", "main main", "Main", "main,", "main end", "mains",
         ):
             self.bad(line + "\nmain\nend", 1)
@@ -259,10 +262,12 @@ class Lines(Reading):
         for text, line in (
             (function + table + main, 3), (table + function + table + main, 4), (main + table, 3), (main + function, 3),
             (main + main, 3), (function + main + function, 5), (table + main + table + main, 4),
-            (main + "tell 1", 3), (main + "end", 3), (main + "else", 3), (main + "\n\n#\nend", 6), (main + "nonsense", 3),
+            (main + "tell 1", 3), (main + "end", 3), (main + "else", 3), (main + "\n\n#\nend", 6),
+            (main + "nonsense", 3),
             ("end\n" + main, 1), ("else\n" + main, 1), ("tell 1\n" + main, 1), ("let a = 1\n" + main, 1),
             (table + "a = 1\n" + main, 2), (function + "a[1] = 1\n" + main, 3), ("if 1\nend\n" + main, 1),
-            ("while 1\nend\n" + main, 1), ("do f()\n" + main, 1), ("give 1\n" + main, 1), (function + "end\n" + main, 3),
+            ("while 1\nend\n" + main, 1), ("do f()\n" + main, 1), ("give 1\n" + main, 1),
+            (function + "end\n" + main, 3),
         ):
             self.bad(text, line)
 
@@ -281,7 +286,8 @@ class Expressions(Reading):
 
     def test_each_expression(self):
         for text, expected in (
-            ("7", ("number", 7)), ("a", A), ("inputs", ("inputs",)), ("a[b]", ("at", "a", B)), ("a()", ("call", "a", ())),
+            ("7", ("number", 7)), ("a", A), ("inputs", ("inputs",)), ("a[b]", ("at", "a", B)),
+            ("a()", ("call", "a", ())),
             ("a(b)", ("call", "a", (B,))), ("a(b, c)", ("call", "a", (B, C))),
             ("a(b, c, d, 1)", ("call", "a", (B, C, D, ONE))), ("input(a)", ("input", A)), ("not a", ("not", A)),
             ("a or b", ("or", A, B)), ("a and b", ("and", A, B)), ("(a)", A), ("((a))", A), ("(a)(b)", None),
@@ -299,10 +305,12 @@ class Expressions(Reading):
 
     def test_texts_that_are_no_expressions(self):
         for text in (
-            "", "()", "(", ")", "(a", "a)", "((a)", "(a))", "a[", "a[]", "a[1", "a]", "a[1)", "a(1]", "(a]", "[a]", "[1]",
+            "", "()", "(", ")", "(a", "a)", "((a)", "(a))", "a[", "a[]", "a[1", "a]", "a[1)", "a(1]", "(a]", "[a]",
+            "[1]",
             "a(", "a(1", "a(,)", "a(1,)", "a(,1)", "a(1 2)", "a(1)(2)", "a[1][2]", "a(1)[2]", "a[1](2)", "1(2)", "1[2]",
             "input", "input()", "input(1, 2)", "input[1]", "input 1", "inputs(1)", "inputs[1]", "inputs()", "not",
-            "a not b", "a or", "or a", "a and", "and a", "a or and b", "a and or b", "a +", "+ a", "a + + b", "- a", "a - - b",
+            "a not b", "a or", "or a", "a and", "and a", "a or and b", "a and or b", "a +", "+ a", "a + + b", "- a",
+            "a - - b",
             "a * / b", "a mod", "mod a", "a mod mod b", "a <", "< a", "a < < b", "1 a", "a 1", "a b", "(a) b",
             "a (b) c", "not or a", "a not", "let", "tell 1", "a = b", "a and b and", "not (a", "a == not b", "!a",
         ):
@@ -409,11 +417,13 @@ class Faults(Reading):
     def test_texts_that_end_too_early(self):
         for text in ("", "\n", "\n\n\n", "#", "  ", "main", "main\n", "main\n\n  \n#", "table t 1", "table t 1\n",
                      "to f()", "to f()\nend", "to f()\nend\n\n", "main\nif 1\nend", "main\nwhile 1\nend\n",
-                     "main\nif 1\nelse\ntell 1", "main\nif 1\nelse\ntell 1\nend\n\n\n", "table t 1\nto f()\ngive 1\nend\n#"):
+                     "main\nif 1\nelse\ntell 1", "main\nif 1\nelse\ntell 1\nend\n\n\n",
+                     "table t 1\nto f()\ngive 1\nend\n#"):
             self.bad(text, 1 + text.count("\n"))
 
     def test_the_first_wrong_line(self):
-        lines = ["table t 2", "to f(a)", "if a", "give 1", "else", "tell 1", "end", "end", "main", "while a", "end", "end"]
+        lines = ["table t 2", "to f(a)", "if a", "give 1", "else", "tell 1", "end", "end", "main", "while a", "end",
+                 "end"]
         for place in range(len(lines)):
             for wrong in ("nonsense", "tell", "tell 1 1", "%", "# %", "table t 65", "let end = 1"):
                 broken = lines[:place] + [wrong] + lines[place + 1:]
@@ -451,7 +461,8 @@ class Faults(Reading):
                     self.bad(text + "\nnonsense", line)
 
     def test_too_great_a_depth(self):
-        for text, line in (("not " * 10, 0), ("1 + " * 10, 0), ("1 and " * 10, 0), ("input(" * 10, 10), ("t[" * 10, -10)):
+        for text, line in (("not " * 10, 0), ("1 + " * 10, 0), ("1 and " * 10, 0), ("input(" * 10, 10),
+                           ("t[" * 10, -10)):
             closing = ")" * line if line >= 0 else "]" * -line
             self.assertEqual(parse("main\ntell " + text + "a" + closing + "\nend")[0], "program")
         for text, closing in (("not ", ""), ("1 + ", ""), ("1 or ", ""), ("input(", ")"), ("t[", "]"), ("f(1, ", ")")):

@@ -32,7 +32,8 @@ class Writing(unittest.TestCase):
     def test_a_whole_program(self):
         self.written(
             ("program", (("t", 1), ("rows", 64)), (
-                ("f", (), ()), ("g", ("a",), (("give", A),)), ("h", ("a", "b", "c", "d"), (("tell", D), ("give", ONE)))),
+                ("f", (), ()), ("g", ("a",), (("give", A),)),
+                ("h", ("a", "b", "c", "d"), (("tell", D), ("give", ONE)))),
              (("let", "k", ONE), ("tell", ("name", "k")))),
             "table t 1\ntable rows 64\nto f()\nend\nto g(a)\n  give a\nend\nto h(a, b, c, d)\n  tell d\n  give 1\nend\n"
             "main\n  let k = 1\n  tell k\nend\n")
@@ -40,7 +41,8 @@ class Writing(unittest.TestCase):
     def test_each_statement(self):
         for statement, lines in (
             (("let", "k", ONE), ["let k = 1"]), (("set", "k", op("+", A, ONE)), ["k = a + 1"]),
-            (("put", "t", op("-", A, B), op("<", A, B)), ["t[a - b] = a < b"]), (("tell", ("or", A, B)), ["tell a or b"]),
+            (("put", "t", op("-", A, B), op("<", A, B)), ["t[a - b] = a < b"]),
+            (("tell", ("or", A, B)), ["tell a or b"]),
             (("give", ("not", A)), ["give not a"]), (("do", "f", ()), ["do f()"]), (("do", "f", (A,)), ["do f(a)"]),
             (("do", "f", (A, ("or", A, B), ONE, ("inputs",))), ["do f(a, a or b, 1, inputs)"]),
             (("if", A, (), ()), ["if a", "end"]), (("if", A, (("tell", ONE),), ()), ["if a", "  tell 1", "end"]),
@@ -49,7 +51,8 @@ class Writing(unittest.TestCase):
              ["if a", "  tell 1", "  tell a", "else", "  tell b", "  give c", "end"]),
             (("while", A, ()), ["while a", "end"]),
             (("while", A, (("while", B, (("tell", ONE),)), ("if", C, (), (("if", D, (), ()),)))),
-             ["while a", "  while b", "    tell 1", "  end", "  if c", "  else", "    if d", "    end", "  end", "end"]),
+             ["while a", "  while b", "    tell 1", "  end", "  if c", "  else", "    if d", "    end", "  end",
+              "end"]),
         ):
             text = "".join("  " + line + "\n" for line in lines)
             self.written(("program", (), (), (statement,)), "main\n" + text + "end\n")
@@ -71,7 +74,8 @@ class Writing(unittest.TestCase):
             (op("*", op("+", A, B), C), "(a + b) * c"), (op("-", A, op("-", B, C)), "a - (b - c)"),
             (op("-", op("-", A, B), C), "a - b - c"), (op("/", A, ("at", "t", op("/", B, C))), "a / t[b / c]"),
             (op("<", op("<", A, B), C), "(a < b) < c"), (op("<", A, op("<", B, C)), "a < (b < c)"),
-            (op("<", ("not", A), ("not", B)), "(not a) < (not b)"), (("and", ("not", A), ("not", B)), "not a and not b"),
+            (op("<", ("not", A), ("not", B)), "(not a) < (not b)"),
+            (("and", ("not", A), ("not", B)), "not a and not b"),
             (op("mod", A, ("not", ("not", B))), "a mod (not not b)"),
         ):
             self.written(told(expression), "main\n  tell " + text + "\nend\n")
@@ -168,7 +172,8 @@ class Writing(unittest.TestCase):
                 yield begun.pop(), place
 
     def test_the_deepest_expressions(self):
-        for wrap in (lambda e: op("*", op("+", ONE, e), A), lambda e: ("at", "t", op("-", A, e)), lambda e: ("not", ("or", e, A))):
+        for wrap in (lambda e: op("*", op("+", ONE, e), A), lambda e: ("at", "t", op("-", A, e)),
+                     lambda e: ("not", ("or", e, A))):
             e = A
             for _ in range(5):
                 e = wrap(e)
