@@ -25,6 +25,7 @@ FUNCTIONS = {
     "meaning": {"check": ["tree"], "source": ["value"]},
     "plain": {"plain": ["checked", "inputs", "units"]},
     "building": {"build": ["checked"]},
+    "letters": {"is_letter": ["digests", "value"]},
 }
 
 CLASSES = {
@@ -49,6 +50,21 @@ CLASSES = {
         "Machine": {
             "__init__": ["digests", "registers", "words"], "registers": [], "words": [], "word": ["place"],
             "path": ["place"], "root": [], "digest": [], "step": [], "told": [],
+        },
+    },
+    "histories": {
+        "History": {
+            "__init__": ["digests", "words", "k", "turn"], "digest": ["steps"], "root": ["level", "index"],
+            "halves": ["level", "index"], "opening": ["steps"], "end": [],
+        },
+    },
+    "court": {
+        "Court": {
+            "__init__": ["digests", "coins", "bond", "patience"], "receive": ["player", "letter"], "tick": [],
+            "time": [], "coins": [], "held": [], "log": [], "count": [], "question": ["number"],
+            "claims": ["number"], "edges": ["number"], "has_rival": ["number", "edge"],
+            "is_proven": ["number", "edge"], "halves": ["number", "edge"], "timer": ["number", "edge"],
+            "accepted": ["number"], "answer": ["number"],
         },
     },
 }
