@@ -3,14 +3,14 @@
 from onestepcourt.machine import first_registers
 from onestepcourt.openings import opened
 from onestepcourt.runs import TurnedRun
-from onestepcourt.trees import levels_of, path_in
+from onestepcourt.trees import levels_of, path_in, root_of
 
 
 class History:
     """The history of a run with 2 to the power of k steps.
 
     It keeps only the states between its blocks, and the roots of the blocks and of what they make up together. What
-    lies within a block is run anew: so a history needs about as much room as the root of its number of steps.
+    lies within a block is run anew, as there are far more digests than blocks.
     """
 
     def __init__(self, digests, words, k, turn):
@@ -63,7 +63,7 @@ class History:
         roots = []
         self._states.append(run.state())
         for _ in range(1 << (self._k - self._low)):
-            roots.append(levels_of(self._digests, self._row_by(run))[-1][0])
+            roots.append(root_of(self._digests, self._row_by(run)))
             self._states.append(run.state())
         self._levels = levels_of(self._digests, roots)
 

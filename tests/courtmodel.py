@@ -109,10 +109,13 @@ class CourtModel:
             return "rival"
         if question["edges"][edge]["proven"]:
             return "proven"
-        if start not in self.steps or self.steps[start] != (opening, root):
+        if not self.is_step(start, root, opening):
             return "step"
         question["edges"][edge]["proven"] = True
         return "done"
+
+    def is_step(self, start, root, opening):
+        return start in self.steps and self.steps[start] == (opening, root)
 
     def tick(self):
         self.now += 1

@@ -68,6 +68,15 @@ BUILDING = r"""
 3
 """
 
+SCHEDULES = r"""
+>>> from onestepcourt.schedules import read_schedule
+>>> read_schedule("court 61 5 9 0\nplayer honest 0 20\ntext\nmain\nend\n.\nask 0 0 1 7,8\ntick 2")
+((61, 5, 9, 0, (('honest', 0, 20),)), (('ask', 0, (1024,), (7, 8), 1), ('tick',), ('tick',)))
+>>> read_schedule("court 61 5 9 0\ntick")
+Traceback (most recent call last):
+onestepcourt.errors.BadSchedule: 2
+"""
+
 README = pathlib.Path(__file__).resolve().parent.parent / "README.md"
 
 
@@ -101,6 +110,9 @@ class Examples(unittest.TestCase):
 
     def test_building(self):
         self.check(BUILDING, "building")
+
+    def test_schedules(self):
+        self.check(SCHEDULES, "schedules")
 
 
 if __name__ == "__main__":

@@ -26,6 +26,13 @@ FUNCTIONS = {
     "plain": {"plain": ["checked", "inputs", "units"]},
     "building": {"build": ["checked"]},
     "letters": {"is_letter": ["digests", "value"]},
+    "players": {"letters_for": ["court", "digests", "number", "history"]},
+    "schedules": {"read_schedule": ["text"], "run": ["text"]},
+    "judging": {
+        "ledger_of": ["court", "coins", "bond", "patience"], "true_run": ["digests", "image", "inputs", "level"],
+        "ledger_faults": ["digests", "ledger"], "truth_faults": ["digests", "ledger"],
+        "has_collision": ["bits", "ledger"],
+    },
 }
 
 CLASSES = {
@@ -65,6 +72,16 @@ CLASSES = {
             "claims": ["number"], "edges": ["number"], "has_rival": ["number", "edge"],
             "is_proven": ["number", "edge"], "halves": ["number", "edge"], "timer": ["number", "edge"],
             "accepted": ["number"], "answer": ["number"],
+        },
+    },
+    "players": {
+        "Honest": {"__init__": ["player", "digests"], "letters": ["court"], "player": []},
+        "Liar": {"__init__": ["player", "digests", "way", "number"], "letters": ["court"], "player": []},
+    },
+    "worlds": {
+        "World": {
+            "__init__": ["bits", "bond", "patience", "late", "players"], "do": ["event"], "court": [], "book": [],
+            "letters": [],
         },
     },
 }
