@@ -102,9 +102,7 @@ class Docket:
             return "closed"
         if letter[0] == "claim":
             return self._claim(player, question, letter, time)
-        if letter[0] == "halve":
-            return self._halve(question, letter, time)
-        return self._prove(question, letter)
+        return self._dispute(question.edges, letter, time)
 
     def decide(self, since, until):
         """Decides what the ticks behind since, up to until, decide; returns the list of those questions."""
@@ -144,13 +142,17 @@ class Docket:
         question.edges.add(question.edge(root), time)
         return "done"
 
-    def _halve(self, question, letter, time):
+    def _dispute(self, edges, letter, time):
         edge = edge_of(letter)
-        edges = question.edges
         if not edges.stands(edge):
             return "edge"
         if not edges.has_rival(edge):
             return "rival"
+        if letter[0] == "halve":
+            return self._halve(edges, edge, letter, time)
+        return self._prove(edges, edge, letter)
+
+    def _halve(self, edges, edge, letter, time):
         if edge[0] == 0:
             return "level"
         if edges.halves(edge) is not None:
@@ -161,13 +163,7 @@ class Docket:
         edges.halve(edge, halves_of(self._digests, edge, left, right, last), time)
         return "done"
 
-    def _prove(self, question, letter):
-        edge = edge_of(letter)
-        edges = question.edges
-        if not edges.stands(edge):
-            return "edge"
-        if not edges.has_rival(edge):
-            return "rival"
+    def _prove(self, edges, edge, letter):
         if edges.is_proven(edge):
             return "proven"
         if not shows_step(self._digests, letter):

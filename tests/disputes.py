@@ -53,6 +53,22 @@ def start_of(bits, image, inputs):
     return reckoning.state(bits, (0, 0, 0, 0, 7, 0, root))
 
 
+def crafted_claim(bits, number, below, memory_root=77, registers=(0, 0, 0, 1, 7, 0), told=()):
+    """A claim that shows its answer, with this path, of a run that there is not. Its last digest is that of the state."""
+    last = root = reckoning.state(bits, registers + (memory_root,))
+    for item in below:
+        root = reckoning.fold(bits, item, root)
+    return ("claim", number, root, last, tuple(below), registers, memory_root, told)
+
+
+def another_pair(bits, pair):
+    """Another pair with the same fold."""
+    wanted = reckoning.fold(bits, *pair)
+    modulus = reckoning.MODULI[bits]
+    return next((x, y) for x in range(modulus) for y in range(min(modulus, 200))
+                if reckoning.fold(bits, x, y) == wanted and x != pair[0] and y != pair[1])
+
+
 def put(values, place, value):
     return values[:place] + (value,) + values[place + 1:]
 

@@ -3,7 +3,9 @@
 import unittest
 
 import reckoning
-from disputes import IMAGE, Taking, ask, court_of, false_row, start_of, ticks, true_row, twice_false_row
+from disputes import (
+    IMAGE, Taking, another_pair, ask, court_of, crafted_claim, false_row, start_of, ticks, true_row, twice_false_row,
+)
 from rows import row
 
 TRUE = true_row(3)
@@ -94,6 +96,29 @@ class Rivals(Taking, unittest.TestCase):
         self.assertEqual(other.edge(1, 1)[:4], right[:4])
         self.assertIs(court.has_rival(0, right_back), False)
         self.assertIs(court.has_rival(0, right), True)
+
+    def test_edges_with_one_prefix_and_different_starts(self):
+        # This needs two pairs with one fold: the left halves are the same edge, with two ways to show its last digest.
+        pair = (3, 4)
+        other = another_pair(7, pair)
+        left = reckoning.fold(7, *pair)
+        court = court_of(2, bits=7)
+        claims = [crafted_claim(7, 0, (below, left), 77) for below in (1, 2)]
+        self.takes(court, 0, *claims)
+        start = court.question(0)[0]
+        rights = []
+        for claim, (first, last) in zip(claims, (pair, other)):
+            right = reckoning.fold(7, claim[4][0], claim[3])
+            self.takes(court, 1, ("halve", 0, 2, 0, 5, start, claim[2], left, right, last, (first,)))
+            rights.append((1, 1, reckoning.fold(7, 5, left), last, right))
+        self.assertEqual(rights[0][:3], rights[1][:3])
+        self.assertNotEqual(rights[0][3], rights[1][3])
+        self.assertNotEqual(rights[0][4], rights[1][4])
+        for edge in rights:
+            self.assertIn(edge, court.edges(0))
+            self.assertIs(court.has_rival(0, edge), False)
+        ticks(court, 3)
+        self.assertEqual([court.timer(0, edge) for edge in rights], [3, 3])
 
     def test_the_same_lie_at_another_index(self):
         court = court_of(2)

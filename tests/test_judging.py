@@ -2,8 +2,12 @@ import random
 import unittest
 
 import judgemodel
+import reckoning
 from courtmodel import told_by
-from disputes import BOND, COINS, IMAGE, Taking, ask, court_of, false_row, put, ticks, true_row, twice_false_row
+from disputes import (
+    BOND, COINS, IMAGE, Taking, ask, court_of, crafted_claim, false_row, put, ticks, true_row,
+    twice_false_row,
+)
 from judgemodel import collide, faults_of, texts_of
 from reckoning import ALL_BITS
 from rows import COUNTS, HALTS_AT_ONCE, HALTS_LATE, TELLS, row
@@ -134,28 +138,44 @@ class RightLedgers(unittest.TestCase):
             self.assertEqual(ledger_faults(DIGESTS, (COINS, 10, patience, far, late, root, coins)), [], patience)
 
     def test_the_first_tick_that_decides(self):
-        # Two claims come to the patience in different ticks, with no letter in between: the first one counts.
-        for many in (5, 8):
-            court = self.two_claims(many)
-            court.tick()
-            self.assertIsNotNone(court.accepted(0))
-            ticks(court, 1000)
-            self.assertEqual(ledger_faults(DIGESTS, ledger(court, 10)), [])
+        # Two claims come to the patience in different ticks, with no letter in between: the first one is accepted,
+        # also where the other one has the lesser root.
+        roots = {word: false_row(2, 2, word).root(2, 0) for word in range(900, 1000)}
+        least, greatest = min(roots, key=roots.get), max(roots, key=roots.get)
+        self.assertLess(roots[least], true_row(2).root(2, 0))
+        self.assertGreater(roots[greatest], true_row(2).root(2, 0))
+        for word in (least, greatest):
+            for later in (1, 2, 3):
+                court, own, once = self.two_claims(word, later)
+                self.assertEqual([court.timer(0, one.claimed()) for one in (own, once)], [later, 0])
+                at = court.time()
+                for time in (at, at + 5 - later - 1, at + 5 - later, at + 5, at + 6, at + 7, at + 8, at + 100, at + 10 ** 9):
+                    root = own.root(2, 0) if time >= at + 5 - later else None
+                    coins = (120, 90, 90, 7) if root is not None else (90, 90, 90, 7)
+                    found = (COINS, BOND, 5, time, tuple(court.log()), (root,), coins)
+                    self.assertEqual(ledger_faults(DIGESTS, found), [], (word, later, time))
+                ticks(court, 20)
+                self.assertEqual(ledger_faults(DIGESTS, ledger(court, 5)), [])
+                self.assertEqual(court.accepted(0), own.root(2, 0))
 
-    def two_claims(self, many):
-        own, once = true_row(1), false_row(1, 1)
-        twice = twice_false_row(1, 1, 2)
-        court = court_of(1, 10)
+    def two_claims(self, word, later):
+        """A court without letters to come, where the true claim has a timer of so many ticks, and a false one of none.
+
+        Both count on: the timer of the false one comes to 5, the patience, and stays there.
+        """
+        own, once = true_row(2), false_row(2, 2, word)
+        twice = row(61, IMAGE, (), 2, ("word", 2, 200, word), ("word", 4, 201, 5))
+        court = court_of(2, 5)
         for player, one in enumerate((own, once, twice)):
             court.receive(player, one.claim(0))
         for one in (once, twice):
             court.receive(0, one.halve(0, one.claimed()))
-        ticks(court, 12 - many)
-        court.receive(0, own.halve(0, own.claimed()))
-        ticks(court, 11)
-        court.receive(0, own.prove(0, own.edge(0, 0)))
-        court.receive(0, once.prove(0, once.edge(0, 1)))
-        return court
+        ticks(court, 5)
+        for letter in (own.halve(0, own.claimed()), own.halve(0, own.edge(1, 0))):
+            court.receive(0, letter)
+        ticks(court, later)
+        court.receive(1, once.halve(0, once.edge(1, 1)))
+        return court, own, once
 
     def test_claims_that_grow_without_letters(self):
         drawn = random.Random(5)
@@ -484,6 +504,78 @@ class Collisions(Taking, unittest.TestCase):
         for kind, seen in kinds.items():
             self.assertIn((False, True), seen, kind)
             self.assertIn((False, False), seen, kind)
+
+    def crafted(self, image, *letters):
+        """The ledger of a court with 13 bits and a question of level 2, whose letters have an effect."""
+        court = court_of(bits=13)
+        self.takes(court, 0, ask(2, (), image), *letters)
+        return ledger(court, 50)
+
+    def image_without(self):
+        """An image, and the texts of its question, none of which collide."""
+        for first in range(100):
+            image = (1024 * 2 + first,)
+            texts = texts_of(13, self.crafted(image))
+            if not collide(13, texts):
+                return image, texts
+
+    def test_each_digest_of_a_claim_counts(self):
+        image, texts = self.image_without()
+        folds = {judgemodel.digest_of(13, *text) for text in texts if text[0] == "fold"}
+        states = {judgemodel.digest_of(13, *text) for text in texts if text[0] == "state"}
+
+        def claims(kind):
+            for number in range(20000):
+                if kind == "state":
+                    yield crafted_claim(13, 0, (1, 2), number), number
+                elif kind == "path":
+                    yield crafted_claim(13, 0, (number % 8191, 2), 77), number
+                elif kind == "upper path":
+                    yield crafted_claim(13, 0, (1, number % 8191), 77), number
+                else:
+                    word = number % 65536
+                    out = reckoning.out_of(13, (word,))
+                    yield crafted_claim(13, 0, (1, 2), 77, (0, 0, 0, 1, out, 1), (word,)), number
+
+        for kind in ("state", "path", "upper path", "told"):
+            seen = set()
+            for claim, number in claims(kind):
+                first = reckoning.fold(13, claim[4][0], claim[3])
+                collides = {
+                    "state": claim[3] in states, "path": first in folds, "upper path": claim[2] in folds,
+                    "told": number in (8191, 16382) or claim[5][4] in folds,
+                }[kind]
+                if collides or number < 3:
+                    seen.add(self.both(13, self.crafted(image, claim)))
+                if len(seen) == 2:
+                    break
+            self.assertEqual(seen, {False, True}, kind)
+
+    def test_each_digest_of_a_halving_counts(self):
+        image, texts = self.image_without()
+        start = judgemodel.digest_of(13, "state", (0, 0, 0, 0, 7, 0, reckoning.root(13, reckoning.leaves(13, image))))
+        folds = [text for text in texts if text[0] == "fold"]
+        seen = {"path": set(), "prefix": set()}
+        for number in range(8191):
+            pair = (number, 5)
+            left = reckoning.fold(13, *pair)
+            collides = {
+                "path": left in {judgemodel.digest_of(13, *text) for text in folds},
+                "prefix": reckoning.fold(13, 5, left) in {judgemodel.digest_of(13, *text) for text in folds},
+            }
+            for kind in seen:
+                if not collides[kind] and number > 2:
+                    continue
+                claims = [crafted_claim(13, 0, (1, left), 77), crafted_claim(13, 0, (1, 2), 78)]
+                right = reckoning.fold(13, 1, claims[0][3])
+                halving = ("halve", 0, 2, 0, 5, start, claims[0][2], left, right, 5, (number,))
+                before = self.both(13, self.crafted(image, *claims))
+                seen[kind].add((before, self.both(13, self.crafted(image, *claims, halving))))
+            if all((False, True) in found and (False, False) in found for found in seen.values()):
+                break
+        for kind, found in seen.items():
+            self.assertIn((False, True), found, kind)
+            self.assertIn((False, False), found, kind)
 
     def test_the_true_runs_count(self):
         seen = set()

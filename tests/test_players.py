@@ -2,7 +2,7 @@ import random
 import unittest
 
 from courtmodel import told_by
-from disputes import IMAGE, Taking, ask, court_of, false_row, ticks, true_row, twice_false_row
+from disputes import IMAGE, Taking, another_pair, ask, court_of, false_row, ticks, true_row, twice_false_row
 from playermodel import Draws, HonestModel, LiarModel, Telling
 from rows import COUNTS, TELLS, Row, memory, row
 import playermodel
@@ -102,22 +102,21 @@ class ToldWay(Taking, unittest.TestCase):
         self.assertEqual(self.letters(court), [])
 
     def test_halved_otherwise(self):
-        # With 7 bits other halves of the true root are found soon: an edge that is halved by them gets no letters.
-        bits = 7
-        own, other = true_row(1, bits=bits), None
-        digests = Digests(bits, None)
-        left, right = own.row
-        found = [(x, y) for x in range(127) for y in range(127)
-                 if digests.fold(x, y) == own.root(1, 0) and x != left]
-        court = court_of(1, bits=bits)
-        other = next(own_of for own_of in (false_row(1, 2, word, bits) for word in range(50))
-                     if own_of.root(1, 0) != own.root(1, 0))
-        self.claimed(court, own, other)
+        # With 7 bits there are other halves with the true root: an edge that is halved by them gets no letters.
+        digests = Digests(7, None)
+        own = true_row(1, bits=7)
+        other = next(lie for lie in (false_row(1, 2, word, 7) for word in range(50)) if lie.root(1, 0) != own.root(1, 0))
         truth = History(digests, memory(IMAGE, ()), 1, None)
+        court = court_of(1, bits=7)
+        self.claimed(court, own, other)
         self.assertEqual(letters_for(court, digests, 0, truth), [own.halve(0, own.claimed())])
-        x, y = found[0]
-        self.takes(court, 1, ("halve", 0) + own.claimed() + (x, y, x, ()))
+        left, right = another_pair(7, own.row)
+        self.takes(court, 1, ("halve", 0) + own.claimed() + (left, right, left, ()))
         self.assertNotEqual(court.halves(0, own.claimed()), own.half_edges(own.claimed()))
+        self.assertEqual(letters_for(court, digests, 0, truth), [])
+        # Also if one of these halves has a rival.
+        self.takes(court, 1, other.halve(0, other.claimed()))
+        self.assertIs(court.has_rival(0, court.halves(0, own.claimed())[0]), True)
         self.assertEqual(letters_for(court, digests, 0, truth), [])
 
     def test_another_question(self):
